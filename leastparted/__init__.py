@@ -1,0 +1,1 @@
+"""Parted at least cost: groups of records that go against the fewest votes."""

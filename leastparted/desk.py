@@ -1,4 +1,4 @@
-"""A desk: records, what is voted and ruled of each pair of them, and the cheapest groups.
+"""A desk: records, what is voted and ruled of each pair of them, and the groups that come of it.
 
 Groups are a list with a number for each record: record 1 stands at place 0.
 A pair is a tuple, the lower number first.
@@ -9,20 +9,28 @@ VOTE = 1
 RULE = 2
 LEAST = 3
 NTH = 4
+SURE = 5
+MARGIN = 6
+COST = 7
+CHAIN = 8
+GREEDY = 9
+WITHOUT = 10
 
-# By a call's number: how many places it takes in the list, its own number's among them.
-LENGTHS = (2, 5, 4, 1, 2, 1)
+# By a call's number: how many places it takes in the list, its own number's among them. Of cost it is
+# those up to how many numbers it has.
+LENGTHS = (2, 5, 4, 1, 2, 1, 3, 2, 2, 1, 2, 1)
 
 FEWEST_RECORDS = 2
 MOST_RECORDS = 7
 MOST_VOTES = 1000
+HIGHEST_MARK = 100
 
 FREE = 0
 MUST = 1
 MUST_NOT = 2
 
 OUT_OF_BOUNDS = -1
-NO_PAIR = -3
+NO_RECORD = -3
 NO_SUCH_ONE = -5
 NONE_KEEP = -6
 
@@ -49,6 +57,30 @@ def all_groups(size):
     return ways
 
 
+def groups_of(marks):
+    """Groups as they are told, of a mark for each record: who has the same is together."""
+    numbers = {}
+    groups = []
+    for mark in marks:
+        if mark not in numbers:
+            numbers[mark] = len(numbers)
+        groups.append(numbers[mark])
+    return groups
+
+
+def with_joined(groups, one, other):
+    """The groups, with those of these two numbers as one."""
+    return groups_of([one if number == other else number for number in groups])
+
+
+def linked_groups(size, links):
+    """So many records in groups: together are just those whom these pairs link, over others too."""
+    groups = list(range(size))
+    for pair in links:
+        groups = with_joined(groups, groups[pair[0] - 1], groups[pair[1] - 1])
+    return groups
+
+
 def is_together(groups, pair):
     return groups[pair[0] - 1] == groups[pair[1] - 1]
 
@@ -67,6 +99,13 @@ def told_pairs(pairs):
     for pair in pairs:
         told.extend(pair)
     return told
+
+
+def told_lowest(costs):
+    """1 and the lowest of the costs; 0 alone where there are none."""
+    if len(costs) == 0:
+        return [0]
+    return [1, min(costs)]
 
 
 class Desk:
@@ -101,12 +140,66 @@ class Desk:
                 return False
         return True
 
+    def all_that_keep(self):
+        return [groups for groups in all_groups(self.size) if self.keeps(groups)]
+
     def cheapest(self):
         """The cheapest groups, in order; an empty list where no groups keep to the rules."""
-        kept = [groups for groups in all_groups(self.size) if self.keeps(groups)]
+        kept = self.all_that_keep()
         costs = [self.cost_of(groups) for groups in kept]
         lowest = min(costs, default=0)
         return [groups for groups, cost in zip(kept, costs) if cost == lowest]
+
+    def told_with_cost(self, groups):
+        return [self.cost_of(groups), 1 if self.keeps(groups) else 0] + groups
+
+    def is_joined(self, pair, t):
+        return self.rules[pair] == MUST or self.pro[pair] >= self.contra[pair] + t
+
+    def joined_by_rules(self):
+        return linked_groups(self.size, [pair for pair in self.pairs if self.rules[pair] == MUST])
+
+    def pairs_across(self, groups, low, high):
+        """The pairs with one record in each of two groups."""
+        across = []
+        for pair in self.pairs:
+            first = groups[pair[0] - 1]
+            second = groups[pair[1] - 1]
+            if min(first, second) == low and max(first, second) == high:
+                across.append(pair)
+        return across
+
+    def may_join(self, across):
+        return all([self.rules[pair] != MUST_NOT for pair in across])
+
+    def gain_of(self, across):
+        return sum([self.pro[pair] - self.contra[pair] for pair in across])
+
+    def next_step(self, groups):
+        """The numbers of the two groups that are joined next; None at the end."""
+        best = None
+        most = 0
+        count = max(groups) + 1
+        for low in range(count):
+            for high in range(low + 1, count):
+                across = self.pairs_across(groups, low, high)
+                gain = self.gain_of(across)
+                # The same gain is not enough, so that of several the first stays.
+                if gain > most and self.may_join(across):
+                    best = (low, high)
+                    most = gain
+        return best
+
+    def without_record(self, i):
+        """A desk on which nothing is voted or ruled of record i, all else as here."""
+        other = Desk()
+        other.begin(self.size)
+        for pair in self.pairs:
+            if i not in pair:
+                other.pro[pair] = self.pro[pair]
+                other.contra[pair] = self.contra[pair]
+                other.rules[pair] = self.rules[pair]
+        return other
 
     def records(self, n):
         if n < FEWEST_RECORDS or n > MOST_RECORDS:
@@ -117,7 +210,7 @@ class Desk:
     def vote(self, i, j, pro, contra):
         pair = (min(i, j), max(i, j))
         if not self.is_pair(pair):
-            return [NO_PAIR]
+            return [NO_RECORD]
         if pro > MOST_VOTES or contra > MOST_VOTES:
             return [OUT_OF_BOUNDS]
         self.pro[pair] = pro
@@ -127,7 +220,7 @@ class Desk:
     def rule(self, i, j, rule):
         pair = (min(i, j), max(i, j))
         if not self.is_pair(pair):
-            return [NO_PAIR]
+            return [NO_RECORD]
         if rule > MUST_NOT:
             return [OUT_OF_BOUNDS]
         before = self.rules[pair]
@@ -156,10 +249,59 @@ class Desk:
         parted = [pair for pair in self.pairs if parted_in_all(ways, pair)]
         return told_pairs(together) + told_pairs(parted)
 
+    def margin(self, i, j):
+        pair = (min(i, j), max(i, j))
+        if not self.is_pair(pair):
+            return [NO_RECORD]
+        kept = self.all_that_keep()
+        together = [self.cost_of(groups) for groups in kept if is_together(groups, pair)]
+        parted = [self.cost_of(groups) for groups in kept if not is_together(groups, pair)]
+        return told_lowest(together) + told_lowest(parted)
 
-def call_length(number):
-    if number >= len(LENGTHS):
-        raise NotImplementedError(f"call {number}")
+    def cost(self, marks):
+        if len(marks) != self.size or max(marks) > HIGHEST_MARK:
+            return [OUT_OF_BOUNDS]
+        return self.told_with_cost(groups_of(marks))
+
+    def chain(self, t):
+        links = [pair for pair in self.pairs if self.is_joined(pair, t)]
+        return self.told_with_cost(linked_groups(self.size, links))
+
+    def greedy(self):
+        groups = self.joined_by_rules()
+        if not self.keeps(groups):
+            return [NONE_KEEP]
+        steps = 0
+        step = self.next_step(groups)
+        while step is not None:
+            groups = with_joined(groups, step[0], step[1])
+            steps += 1
+            step = self.next_step(groups)
+        return [steps, self.cost_of(groups)] + groups
+
+    def without(self, i):
+        if i < 1 or i > self.size:
+            return [NO_RECORD]
+        # A record of which nothing is voted or ruled costs nothing wherever it is: all others' groups
+        # cost the same with it as without it.
+        other = self.without_record(i)
+        ways = other.cheapest()
+        if len(ways) == 0:
+            return [NONE_KEEP]
+        return [other.cost_of(ways[0])]
+
+    def counts(self):
+        told = [self.size]
+        for pair in self.pairs:
+            told.extend([self.pro[pair], self.contra[pair], self.rules[pair]])
+        return told
+
+
+def call_length(calls, place):
+    """How many places the call that begins at this one takes."""
+    number = calls[place]
+    if number == COST:
+        return LENGTHS[number] + calls[place + 1]
     return LENGTHS[number]
 
 
@@ -176,8 +318,20 @@ def answer(desk, call):
         return desk.least()
     if number == NTH:
         return desk.nth(call[1])
-    # Of the calls that have a length, sure alone is left.
-    return desk.sure()
+    if number == SURE:
+        return desk.sure()
+    if number == MARGIN:
+        return desk.margin(call[1], call[2])
+    if number == COST:
+        return desk.cost(call[LENGTHS[COST]:])
+    if number == CHAIN:
+        return desk.chain(call[1])
+    if number == GREEDY:
+        return desk.greedy()
+    if number == WITHOUT:
+        return desk.without(call[1])
+    # Of the twelve calls counts alone is left.
+    return desk.counts()
 
 
 def answers(calls):
@@ -186,7 +340,7 @@ def answers(calls):
     told = []
     place = 0
     while place < len(calls):
-        behind = place + call_length(calls[place])
+        behind = place + call_length(calls, place)
         one = answer(desk, calls[place:behind])
         told.append(len(one))
         told.extend(one)

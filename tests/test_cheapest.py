@@ -2,16 +2,10 @@
 
 import unittest
 
-from tests.helper import LAID, LOOK, TOP, ask, last, least, nth, records, rule, sure, vote, votes_and_rules
-
-
-def like_like_unlike(against):
-    """1 is like 2, 2 like 3, and so much is against 1 and 3."""
-    return [records(3), vote(1, 2, 5, 0), vote(2, 3, 4, 0), vote(1, 3, 0, against)]
-
-
-# Rule 1 leads from 1 over 4 and 2 to 3, and rule 2 keeps 1 from 3.
-TORN = [records(4), rule(1, 4, 1), rule(2, 4, 1), rule(2, 3, 1), rule(1, 3, 2)]
+from tests.helper import (
+    LAID, LOOK, TOP, TORN, all_pairs, ask, last, least, like_like_unlike, nth, records, rule, sure, vote,
+    votes_and_rules,
+)
 
 
 class Least(unittest.TestCase):
@@ -27,7 +21,7 @@ class Least(unittest.TestCase):
         self.assertEqual(last(*line, least()), [4, 2, 0, 0, 1])
 
     def test_all_parted(self):
-        line = [records(4)] + [vote(i, j, 0, 1) for i in range(1, 5) for j in range(i + 1, 5)]
+        line = [records(4)] + [vote(i, j, 0, 1) for i, j in all_pairs(4)]
         self.assertEqual(last(*line, least()), [0, 1, 0, 1, 2, 3])
 
     def test_groups_are_numbered_as_they_are_met(self):
@@ -42,16 +36,15 @@ class Least(unittest.TestCase):
         self.assertEqual(last(*like_like_unlike(9), rule(1, 3, 1), rule(1, 2, 2), least()), [18, 1, 0, 1, 0])
 
     def test_the_most_that_groups_cost(self):
-        pairs = [(i, j) for i in range(1, 8) for j in range(i + 1, 8)]
-        line = [records(7)] + [vote(i, j, 1000, 1000) for i, j in pairs]
+        line = [records(7)] + [vote(i, j, 1000, 1000) for i, j in all_pairs(7)]
         self.assertEqual(last(*line, least()), [21000, 877] + [0] * 7)
 
     def test_none_keep_to_the_rules(self):
         self.assertEqual(last(*TORN, least()), [-6])
         for n in range(3, 8):
-            chain = [rule(i, i + 1, 1) for i in range(1, n)]
-            self.assertEqual(last(records(n), *chain, least()), [0, 1] + [0] * n)
-            self.assertEqual(last(records(n), *chain, rule(n, 1, 2), least()), [-6])
+            linked = [rule(i, i + 1, 1) for i in range(1, n)]
+            self.assertEqual(last(records(n), *linked, least()), [0, 1] + [0] * n)
+            self.assertEqual(last(records(n), *linked, rule(n, 1, 2), least()), [-6])
 
     def test_rules_that_look_torn_but_are_not(self):
         self.assertEqual(last(records(3), rule(1, 2, 2), rule(2, 3, 2), rule(1, 3, 1), least()), [0, 1, 0, 1, 0])
@@ -100,10 +93,10 @@ class Sure(unittest.TestCase):
         self.assertEqual(last(*line, sure()), [2, 1, 3, 2, 4, 4, 1, 2, 1, 4, 2, 3, 3, 4])
 
     def test_all_pairs_of_seven(self):
-        pairs = [number for i in range(1, 8) for j in range(i + 1, 8) for number in (i, j)]
+        pairs = [number for pair in all_pairs(7) for number in pair]
         together = [rule(1, j, 1) for j in range(2, 8)]
         self.assertEqual(last(records(7), *together, sure()), [21] + pairs + [0])
-        parted = [rule(i, j, 2) for i in range(1, 8) for j in range(i + 1, 8)]
+        parted = [rule(i, j, 2) for i, j in all_pairs(7)]
         self.assertEqual(last(records(7), *parted, sure()), [0, 21] + pairs)
 
     def test_none_keep_to_the_rules(self):

@@ -1,6 +1,6 @@
 import unittest
 
-from tests.helper import LAID, LOOK, TOP, ask, last, least, records, rule, vote, votes_and_rules
+from tests.helper import LAID, LOOK, NO_PAIRS, TOP, ask, last, least, records, rule, vote, votes_and_rules
 
 
 class Rule(unittest.TestCase):
@@ -35,8 +35,7 @@ class Rule(unittest.TestCase):
             self.assertEqual(last(rule(1, 2, kind)), [-1])
 
     def test_no_pair(self):
-        for i, j in ((0, 1), (1, 0), (0, 0), (1, 1), (3, 3), (1, 4), (4, 1), (4, 4), (4, 5), (0, 4),
-                     (1, TOP), (TOP, 1), (TOP, TOP), (0, TOP)):
+        for i, j in NO_PAIRS:
             self.assertEqual(last(records(3), rule(i, j, 1)), [-3])
 
     def test_one_and_n_are_records(self):
